@@ -71,20 +71,32 @@ func TestAlike(t *testing.T) {
 	}
 }
 
-// TestErrorsOfAlike: P7.3: all errors of the first relation come before those of the second one.
+// TestErrorsOfAlike: P7.3: that one of the two is no relation comes first, whichever it is (rules R1 and R2); then all other
+// errors of the first one come before those of the second one.
 func TestErrorsOfAlike(t *testing.T) {
-	right, none, noLeaf, large := scan("t"), scan("w"), leaf(0, "int int"), join(api.Semi, ex("true"), values(2000), values(2000))
+	right, noLeaf, large := scan("t"), leaf(0, "int int"), join(api.Semi, ex("true"), values(2000), values(2000))
+	leafAndLarge := union(large, leaf(0, "int"))
+	none := []api.Rel{{}, scan("w"), filter(ex("eq(^1.0, 1)"), scan("t")), union(leaf(0, "int"), scan("t"))}
+	check := func(r, s api.Rel, want api.Errno) {
+		if is, e := meaning.Alike(shopBase(), shopData(), r, s); is || e != want {
+			t.Errorf("%v and %v: %v, %v, not %v", r.Op, s.Op, is, e, want)
+		}
+	}
+	for _, n := range none {
+		for _, r := range []api.Rel{right, noLeaf, large, leafAndLarge, n} {
+			check(n, r, api.ErrRel)
+			check(r, n, api.ErrRel)
+		}
+	}
 	for _, c := range []struct {
 		r, s api.Rel
 		want api.Errno
 	}{
-		{right, none, api.ErrRel}, {none, right, api.ErrRel}, {none, noLeaf, api.ErrRel}, {none, large, api.ErrRel},
-		{right, noLeaf, api.ErrNone}, {noLeaf, right, api.ErrNone}, {noLeaf, none, api.ErrNone}, {noLeaf, large, api.ErrNone},
-		{right, large, api.ErrLarge}, {large, right, api.ErrLarge}, {large, none, api.ErrLarge}, {large, noLeaf, api.ErrLarge},
+		{right, noLeaf, api.ErrNone}, {noLeaf, right, api.ErrNone}, {noLeaf, large, api.ErrNone},
+		{right, large, api.ErrLarge}, {large, right, api.ErrLarge}, {large, noLeaf, api.ErrLarge},
+		{leafAndLarge, right, api.ErrNone}, {right, leafAndLarge, api.ErrNone}, {large, leafAndLarge, api.ErrLarge},
 	} {
-		if is, e := meaning.Alike(shopBase(), shopData(), c.r, c.s); is || e != c.want {
-			t.Errorf("%v and %v: %v, %v, not %v", c.r.Op, c.s.Op, is, e, c.want)
-		}
+		check(c.r, c.s, c.want)
 	}
 }
 
@@ -252,6 +264,10 @@ var calls = map[string]func(b api.Base, d api.Data, r api.Rel) (bool, api.Errno)
 	},
 	"Alike, second": func(b api.Base, d api.Data, r api.Rel) (bool, api.Errno) {
 		is, e := meaning.Alike(b, d, scan("t"), r)
+		return !is, e
+	},
+	"Alike, beside no relation": func(b api.Base, d api.Data, r api.Rel) (bool, api.Errno) {
+		is, e := meaning.Alike(b, d, r, scan("w"))
 		return !is, e
 	},
 }
